@@ -1,0 +1,1 @@
+"""Healhalves: words of halves upon halves, and signs that a road wipes out."""
