@@ -1,4 +1,4 @@
-"""The kinds that several files ask for: whole numbers, sizes, places and spots."""
+"""The kinds that several files ask for: whole numbers, sizes, places and spots, rising lists."""
 
 from healhalves.errors import NoPlace, NoSize
 
@@ -14,6 +14,17 @@ def is_whole(thing):
 
 def is_number_below(thing, end):
     return is_whole(thing) and 0 <= thing < end
+
+
+def is_rising(thing, end):
+    if not isinstance(thing, list):
+        return False
+    least = 0
+    for number in thing:
+        if not is_number_below(number, end) or number < least:
+            return False
+        least = number + 1
+    return True
 
 
 def length_of(size):

@@ -62,6 +62,93 @@ def word_by_reach(size, core):
     ]
 
 
+def drawn_net(draw, size, rounds):
+    net = []
+    for _ in range(rounds):
+        spots = list(range(2 ** size))
+        draw.shuffle(spots)
+        pairs = draw.randrange(len(spots) // 2 + 1)
+        net.append([(spots[2 * k], spots[2 * k + 1]) for k in range(pairs)])
+    return net
+
+
+def no_nets(size):
+    last = 2 ** size - 1
+    things = NO_NUMBERS[:8] + [(), (1,), {}, {1: 1}, object(), 0, 1]
+    things = [thing for thing in things if thing != []]
+    things += [[[]] * 41, [[(0, 1)]] * 41, [[]] * 1000]
+    things += [([(0, 1)],), [((0, 1),)], [[[0, 1]]], [(0, 1)], ((0, 1),), [[()]], [[(0,)]], [[(0, 1, 0)]]]
+    things += [[[(0, 0)]], [[(last, last)]], [[(0, 1), (0, 1)]], [[(0, 1), (1, 0)]]]
+    things += [[[], [(0, 1)], [(0, 1), (0, 1)]], [None], [[None]], ["01"], [["01"]], [[0, 1]], [0], [{}], [{(0, 1): 1}]]
+    for thing in no_places(size):
+        things += [[[(thing, 0)]], [[(0, thing)]], [[(0, 1)], [(thing, 1)]]]
+    if size > 1:
+        things += [[[(0, 1), (1, 2)]], [[(0, 1), (2, 0)]], [[(0, 1), (2, 1)]], [[(0, 1), (2, 3), (last, 0)]]]
+        things += [[[(0, 1), (2, 3), (2, 3)]], [[(0, 1), (2, 2)]], [[(0, 1), [2, 3]]], [[(0, 1), None]]]
+    return things
+
+
+def losses_for(size, many=40):
+    """All losses of a small size; of a greater one those of none, all, one and all but one spot, and drawn ones."""
+    spots = range(2 ** size)
+    if size <= 3:
+        return [[spot for spot in spots if row[spot]] for row in all_rows(2 ** size)]
+    draw = random.Random(f"losses {size}")
+    drawn = [sorted(draw.sample(spots, draw.randrange(2 ** size + 1))) for _ in range(many)]
+    ones = [[spot] for spot in spots] + [[other for other in spots if other != spot] for spot in spots]
+    return [[], list(spots)] + ones + drawn
+
+
+def no_losses(size):
+    last = 2 ** size - 1
+    things = [thing for thing in NO_NUMBERS if isinstance(thing, Agreeable) or thing not in ([], [0], [1])]
+    things += [0, 1, (0,), tuple(range(2 ** size)), "0", "01", {0: 0}, {0}, range(1)]
+    things += [[0, 0], [last, last], [1, 0], [last, 0], [0, last, 0], list(range(2 ** size)) + [last], [[0]], [(0,)]]
+    for thing in no_places(size):
+        things += [[thing], [0, thing], [thing, last]]
+    return things
+
+
+def can_be_told(size, loss, place):
+    """By going through all cores: no two that part at the place agree in all that is known."""
+    known = {}
+    for core in all_rows(2 ** size):
+        word = WORDS[tuple(core)]
+        seen = (tuple(core[:place]), tuple(sign for spot, sign in enumerate(word) if spot not in loss))
+        if known.setdefault(seen, core[place]) != core[place]:
+            return False
+    return True
+
+
+def is_paper(size, loss, place, paper):
+    """A paper on a place as the document has it, held against all cores of a small size, and enough of a greater."""
+    if type(paper) is not tuple or not paper or type(paper[0]) is not str:
+        return False
+    kept = [spot for spot in range(2 ** size) if spot not in loss]
+    if paper[0] == "told" and len(paper) == 3:
+        return is_some_of(paper[1], kept) and is_some_of(paper[2], list(range(place))) and all(
+            (sum(WORDS[core][spot] for spot in paper[1]) + sum(core[ahead] for ahead in paper[2])) % 2 == core[place]
+            for core in CORES[size]
+        )
+    if paper[0] == "open" and len(paper) == 2:
+        core = paper[1]
+        if type(core) is not list or len(core) != 2 ** size or any(repr(sign) not in ("0", "1") for sign in core):
+            return False
+        word = word_by_reach(size, core)
+        return sum(core[:place]) == 0 and core[place] == 1 and all(word[spot] == 0 for spot in kept)
+    return False
+
+
+def is_some_of(thing, numbers):
+    if type(thing) is not list or any(type(number) is not int for number in thing):
+        return False
+    return thing == [number for number in numbers if number in thing]
+
+
+CORES = {size: [tuple(core) for core in cores_for(size)] for size in SIZES}
+WORDS = {core: word_by_reach(size, core) for size in SIZES for core in CORES[size]}
+
+
 def lists_within(thing):
     found = [thing] if isinstance(thing, list) else []
     if isinstance(thing, (list, tuple)):

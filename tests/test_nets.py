@@ -4,17 +4,7 @@ import unittest
 from healhalves.errors import NoCore, NoNet, NoSize
 from healhalves.nets import halving_net, is_net, run, turned_net
 from healhalves.words import word_of
-from tests.helping import NO_NUMBERS, NO_SIZES, SIZES, FairCase, cores_for, no_places, single
-
-
-def drawn_net(draw, size, rounds):
-    net = []
-    for _ in range(rounds):
-        spots = list(range(2 ** size))
-        draw.shuffle(spots)
-        pairs = draw.randrange(len(spots) // 2 + 1)
-        net.append([(spots[2 * k], spots[2 * k + 1]) for k in range(pairs)])
-    return net
+from tests.helping import NO_NUMBERS, NO_SIZES, SIZES, FairCase, cores_for, drawn_net, no_nets, single
 
 
 def drawn_nets(size):
@@ -25,22 +15,6 @@ def drawn_nets(size):
 def good_nets(size):
     nets = [[], [[]], [[]] * 40, [[(0, 1)]], [[(1, 0)]], [[(0, 1)]] * 40, [[], [(0, 1)], []], halving_net(size)]
     return nets + [[[(2 ** size - 1, 0)], [(0, 2 ** size - 1)]]] + drawn_nets(size)
-
-
-def no_nets(size):
-    last = 2 ** size - 1
-    things = NO_NUMBERS[:8] + [(), (1,), {}, {1: 1}, object(), 0, 1]
-    things = [thing for thing in things if thing != []]
-    things += [[[]] * 41, [[(0, 1)]] * 41, [[]] * 1000]
-    things += [([(0, 1)],), [((0, 1),)], [[[0, 1]]], [(0, 1)], ((0, 1),), [[()]], [[(0,)]], [[(0, 1, 0)]]]
-    things += [[[(0, 0)]], [[(last, last)]], [[(0, 1), (0, 1)]], [[(0, 1), (1, 0)]]]
-    things += [[[], [(0, 1)], [(0, 1), (0, 1)]], [None], [[None]], ["01"], [["01"]], [[0, 1]], [0], [{}], [{(0, 1): 1}]]
-    for thing in no_places(size):
-        things += [[[(thing, 0)]], [[(0, thing)]], [[(0, 1)], [(thing, 1)]]]
-    if size > 1:
-        things += [[[(0, 1), (1, 2)]], [[(0, 1), (2, 0)]], [[(0, 1), (2, 1)]], [[(0, 1), (2, 3), (last, 0)]]]
-        things += [[[(0, 1), (2, 3), (2, 3)]], [[(0, 1), (2, 2)]], [[(0, 1), [2, 3]]], [[(0, 1), None]]]
-    return things
 
 
 class IsNetTest(FairCase):
