@@ -1,6 +1,6 @@
 """Whether anything is a paper on a place."""
 
-from healhalves.kinds import check_place, check_size, is_rising, length_of
+from healhalves.kinds import check_place, check_size, has_form, is_rising, length_of
 from healhalves.losses import check_loss
 from healhalves.signs import is_row, sum_of
 from healhalves.words import is_reached, word_of
@@ -16,13 +16,6 @@ def lets_paper(size, loss, place, paper):
     if has_form(paper, "open", 2):
         return lets_unsure(length, loss, place, paper[1])
     return False
-
-
-# The first part may be anything, even what says that it equals every word: so its kind is asked first.
-def has_form(paper, word, parts):
-    if not isinstance(paper, tuple) or len(paper) != parts:
-        return False
-    return isinstance(paper[0], str) and paper[0] == word
 
 
 def lets_told(length, loss, place, spots, places):

@@ -4,6 +4,7 @@ import itertools
 import random
 import unittest
 from copy import deepcopy
+from fractions import Fraction
 
 SIZES = (1, 2, 3, 4, 5)
 
@@ -62,6 +63,50 @@ def word_by_reach(size, core):
     ]
 
 
+def turn_by_figures(size, one, other):
+    """The turn of the step up from the one place to the other, read off the written figures; None if it is no step."""
+    first, second = figures(size, one), figures(size, other)
+    unlike = [at for at in range(size) if first[at] != second[at]]
+    if len(unlike) == 1 and first[unlike[0]] == "0":
+        return list(range(2 ** size))
+    if len(unlike) == 2 and unlike[1] == unlike[0] + 1 and first[unlike[0]:unlike[1] + 1] == "01":
+        return [int(exchanged(figures(size, spot), unlike[0]), 2) for spot in range(2 ** size)]
+    return None
+
+
+def exchanged(written, at):
+    return written[:at] + written[at + 1] + written[at] + written[at + 2:]
+
+
+def is_order(size, worse, better, paper):
+    """A paper on a worse and a better place as the document has it."""
+    if type(paper) is not tuple or not paper or type(paper[0]) is not str:
+        return False
+    if paper[0] == "row" and len(paper) == 3:
+        places, turn = paper[1:]
+        if not are_numbers(places, 2 ** size) or not are_numbers(turn, 2 ** size) or len(turn) != 2 ** size:
+            return False
+        if not places or (places[0], places[-1]) != (worse, better):
+            return False
+        steps = [turn_by_figures(size, one, other) for one, other in zip(places, places[1:])]
+        return None not in steps and all(come_to(steps, spot) == turn[spot] for spot in range(2 ** size))
+    if paper[0] == "ones" and len(paper) == 2:
+        if type(paper[1]) is not int or not 1 <= paper[1] <= size:
+            return False
+        return figures(size, better)[:paper[1]].count("1") < figures(size, worse)[:paper[1]].count("1")
+    return False
+
+
+def are_numbers(thing, end):
+    return type(thing) is list and all(type(number) is int and 0 <= number < end for number in thing)
+
+
+def come_to(steps, spot):
+    for step in steps[::-1]:
+        spot = step[spot]
+    return spot
+
+
 def drawn_net(draw, size, rounds):
     net = []
     for _ in range(rounds):
@@ -109,6 +154,57 @@ def no_losses(size):
     return things
 
 
+def is_lost(size, loss, place):
+    """As the document tells it, place by place."""
+    if size == 0:
+        return 0 in loss
+    half = 2 ** (size - 1)
+    pairs = [(spot in loss, spot + half in loss) for spot in range(half)]
+    if place < half:
+        return is_lost(size - 1, [spot for spot in range(half) if any(pairs[spot])], place)
+    return is_lost(size - 1, [spot for spot in range(half) if all(pairs[spot])], place - half)
+
+
+def lost_places(size, loss):
+    return [place for place in range(2 ** size) if is_lost(size, loss, place)]
+
+
+def pair(one):
+    return (one.numerator, one.denominator)
+
+
+def roads_for(size, many=6):
+    """Roads of one share everywhere, of 0, 1 and others among them, and of twelve figures."""
+    length = 2 ** size
+    draw = random.Random(f"roads {size}")
+    ends = [(0, 1), (1, 1)]
+    small = ends + [(1, 2), (1, 3), (2, 3), (3, 4), (5, 7), (1, 10)]
+    most = 10 ** 12 - 1
+    great = ends + [(1, most), (most - 1, most), (most - 2, most - 1), (123456789011, 999999999989)]
+    great += [pair(Fraction(draw.randrange(most), most - draw.randrange(10 ** 6))) for _ in range(6)]
+    same = [[share] * length for share in small + great[2:5]]
+    return same + [[draw.choice(shares) for _ in range(length)] for shares in (ends, small, great) for _ in range(many)]
+
+
+NO_SHARES = NO_NUMBERS + [
+    0, 1, "1/2", (1,), (1, 2, 3), [0, 1], [1, 2], {0: 1}, ((1, 2),), (2, 4), (0, 2), (5, 5), (0, 0), (1, 0), (0, -1),
+    (-1, -2), (2, 1), (3, 2), (1000000000000, 999999999999), (-1, 2), (-1, 1), (1, 10 ** 12), (10 ** 12 - 1, 10 ** 12),
+    (10 ** 12, 10 ** 12 + 1), (10 ** 59 - 1, 10 ** 59), (True, 1), (1, True), (False, 1), (1, "2"), ("1", 2), (None, 1),
+    (1, None), (Agreeable(), 1), (0, Agreeable()), ([1], 2), (1, (2,)),
+]
+
+
+def no_roads():
+    half = (1, 2)
+    things = NO_NUMBERS + [0, 1, 2, half, (half, half), "1/2", "1/2 1/2", {0: half, 1: half}]
+    things += [[half] * length for length in range(70) if length not in (2, 4, 8, 16, 32)] + [[half] * 1000]
+    things += [tuple([half] * length) for length in (2, 4, 8, 16, 32)] + [[[half, half]], [[half], [half]], [(half, half)]]
+    for length in (2, 4, 8, 16, 32):
+        for spot in sorted({0, length // 2, length - 1}):
+            things += [[half] * spot + [share] + [half] * (length - spot - 1) for share in NO_SHARES]
+    return things
+
+
 def can_be_told(size, loss, place):
     """By going through all cores: no two that part at the place agree in all that is known."""
     known = {}
@@ -137,6 +233,17 @@ def is_paper(size, loss, place, paper):
         word = word_by_reach(size, core)
         return sum(core[:place]) == 0 and core[place] == 1 and all(word[spot] == 0 for spot in kept)
     return False
+
+
+def changed_lists(row):
+    """The list with a thing put in, taken out, put otherwise, turned about, or of another kind."""
+    kinds = [row[::-1], row + row, row[1:], row[:-1], [0] + row, row + [0], row + [-1], [-1] + row, row + [32], [1] + row]
+    kinds += [tuple(row), {}, None, True, 0, "".join(str(one) for one in row), [row], [tuple(row)], set(row)]
+    for place in range(len(row)):
+        for thing in (True, False, None, str(row[place]), [row[place]], (row[place],), Agreeable(), 2, -1, row[place] + 1):
+            kinds.append(row[:place] + [thing] + row[place + 1:])
+        kinds.append(row[:place] + [row[place]] + row[place:])
+    return kinds
 
 
 def is_some_of(thing, numbers):

@@ -5,7 +5,7 @@ from fractions import Fraction
 
 from healhalves.errors import NoNumber
 from healhalves.fractions import fraction, is_fraction, is_less, is_share, minus, plus, times
-from tests.helping import NO_NUMBERS, FairCase
+from tests.helping import NO_NUMBERS, FairCase, pair
 
 NO_PAIRS = NO_NUMBERS + [0, 1, "1/2", (), (1,), (1, 2, 3), (1, 1, 1), [1, 2], [0, 1], {1: 2}, ((1, 2),), [(1, 2)], (0,)]
 BIG = 10 ** 29 + 57
@@ -14,10 +14,6 @@ SOME = sorted({(int(one), 1) for one in TOPS} | {
     (Fraction(top, bottom).numerator, Fraction(top, bottom).denominator)
     for top in TOPS for bottom in (1, 2, 3, 4, 6, 12, 10 ** 12, BIG)
 })
-
-
-def pair(one):
-    return (one.numerator, one.denominator)
 
 
 class IsFractionTest(FairCase):

@@ -6,7 +6,8 @@ from healhalves.errors import NoLoss, NoPlace, NoSize
 from healhalves.lookers import lets_paper
 from healhalves.papers import paper_on
 from tests.helping import (
-    NO_NUMBERS, NO_SIZES, SIZES, Agreeable, FairCase, all_rows, is_paper, losses_for, no_losses, no_places, single,
+    NO_NUMBERS, NO_SIZES, SIZES, Agreeable, FairCase, all_rows, changed_lists, is_paper, losses_for, no_losses,
+    no_places, single,
 )
 
 NO_PAPERS = NO_NUMBERS + [0, 1, "told", "open", ("told",), ("open",), ("told", [0]), ("open", [0, 1], [])] + [
@@ -24,17 +25,6 @@ def some_of(numbers):
 
 def toggled(numbers, number):
     return sorted(set(numbers) ^ {number})
-
-
-def changed_lists(row):
-    """The list with a thing put in, taken out, put otherwise, turned about, or of another kind."""
-    kinds = [row[::-1], row + row, row[1:], row[:-1], [0] + row, row + [0], row + [-1], [-1] + row, row + [32], [1] + row]
-    kinds += [tuple(row), {}, None, True, 0, "".join(str(one) for one in row), [row], [tuple(row)], set(row)]
-    for place in range(len(row)):
-        for thing in (True, False, None, str(row[place]), [row[place]], (row[place],), Agreeable(), 2, -1, row[place] + 1):
-            kinds.append(row[:place] + [thing] + row[place + 1:])
-        kinds.append(row[:place] + [row[place]] + row[place:])
-    return kinds
 
 
 def changed_papers(size, paper):

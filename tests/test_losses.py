@@ -3,18 +3,7 @@ import unittest
 
 from healhalves.errors import NoLoss, NoSize
 from healhalves.losses import halves_lost, places_lost
-from tests.helping import NO_SIZES, SIZES, FairCase, can_be_told, losses_for, no_losses
-
-
-def is_lost(size, loss, place):
-    """As the document tells it, place by place."""
-    if size == 0:
-        return 0 in loss
-    half = 2 ** (size - 1)
-    pairs = [(spot in loss, spot + half in loss) for spot in range(half)]
-    if place < half:
-        return is_lost(size - 1, [spot for spot in range(half) if any(pairs[spot])], place)
-    return is_lost(size - 1, [spot for spot in range(half) if all(pairs[spot])], place - half)
+from tests.helping import NO_SIZES, SIZES, FairCase, can_be_told, losses_for, lost_places, no_losses
 
 
 class HalvesLostTest(FairCase):
@@ -60,8 +49,7 @@ class PlacesLostTest(FairCase):
     def test_place_by_place(self):
         for size in SIZES:
             for loss in losses_for(size):
-                wanted = [place for place in range(2 ** size) if is_lost(size, loss, place)]
-                self.assertSame(self.fair(places_lost, size, loss), wanted)
+                self.assertSame(self.fair(places_lost, size, loss), lost_places(size, loss))
 
     def test_as_many_places_as_spots(self):
         for size in SIZES:
