@@ -205,6 +205,67 @@ def no_roads():
     return things
 
 
+def all_codes(size):
+    """All codes of a small size, with all fixed signs."""
+    places = range(2 ** size)
+    for taken in all_rows(2 ** size):
+        free = [place for place in places if taken[place]]
+        if free:
+            for fixed in all_rows(2 ** size - len(free)):
+                yield (size, free, fixed)
+
+
+def codes_for(size, many=12):
+    """Codes with one place free, with all, and drawn ones."""
+    length = 2 ** size
+    draw = random.Random(f"codes {size}")
+    frees = [[0], [length - 1], [draw.randrange(length)], list(range(length)), list(range(1, length))]
+    frees += [sorted(draw.sample(range(length), draw.randrange(1, length + 1))) for _ in range(many)]
+    return [(size, free, [draw.randrange(2) for _ in range(length - len(free))]) for free in frees]
+
+
+def no_codes():
+    code = (2, [1, 3], [0, 1])
+    things = NO_NUMBERS + [0, 1, 2, "*0*1", list(code), code[:2], code[1:], code + (None,), code + ([],), (code,), [code]]
+    things += [code[::-1], (2, code), (2, [1, 3], [0], [1]), {2: code}, (), (2,), (None, None, None)]
+    things += [(size, [1, 3], [0, 1]) for size in NO_SIZES + [1, 3, 4, 5]]
+    things += [(size, [0], [1]) for size in NO_SIZES + [2, 3, 4, 5]] + [(0, [0], []), (6, [0], [0] * 63)]
+    things += [(size, [], [0] * 2 ** size) for size in SIZES]
+    things += [(size, list(range(2 ** size)), [0]) for size in SIZES]
+    things += [(size, [2 ** size], [0] * (2 ** size - 1)) for size in SIZES]
+    things += [(size, [0, 2 ** size], [0] * (2 ** size - 2)) for size in SIZES]
+    things += [(size, list(range(2 ** size + 1)), []) for size in SIZES]
+    things += [(2, free, [0, 1]) for free in ([3, 1], [1, 1], [3, 3], [1], [1, 2, 3], (1, 3), "13", {1: 1, 3: 3}, {1, 3})]
+    things += [(2, [1, 1, 3], [0, 1]), (2, [1, 3, 3], [0, 1]), (2, [[1], [3]], [0, 1]), (2, [[1, 3]], [0, 1])]
+    things += [(2, [thing, 3], [0, 1]) for thing in no_places(2)] + [(2, [1, thing], [0, 1]) for thing in no_places(2)]
+    things += [(2, thing, [0, 1]) for thing in NO_NUMBERS + [0, 1, 3]] + [(2, [1, 3], thing) for thing in NO_NUMBERS + [0, 1]]
+    things += [(2, [1, 3], fixed) for fixed in ([], [0], [0, 1, 0], (0, 1), "01", {0: 0, 1: 1}, [[0, 1]], [[0], [1]])]
+    for thing in NO_NUMBERS + [2, -1, 10 ** 59]:
+        things += [(2, [1, 3], [thing, 1]), (2, [1, 3], [0, thing]), (1, [0], [thing]), (2, [0, 1, 2, 3], [thing])]
+    return things
+
+
+def core_by_places(code, data):
+    size, free, fixed = code
+    core, data, fixed = [], list(data), list(fixed)
+    for place in range(2 ** size):
+        core.append(data.pop(0) if place in free else fixed.pop(0))
+    return core
+
+
+def data_for(code, many=6):
+    """All data where these are few, else those of all 0, all 1, and drawn ones."""
+    length = len(code[1])
+    if length <= 3:
+        return all_rows(length)
+    draw = random.Random(f"data {code}")
+    return [[0] * length, [1] * length] + [[draw.randrange(2) for _ in range(length)] for _ in range(many)]
+
+
+def came_with(word, loss):
+    return [None if spot in loss else sign for spot, sign in enumerate(word)]
+
+
 def can_be_told(size, loss, place):
     """By going through all cores: no two that part at the place agree in all that is known."""
     known = {}

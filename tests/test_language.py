@@ -36,6 +36,10 @@ EXPRESSIONS = (
     ast.Call, ast.Attribute, ast.Subscript, ast.Slice, ast.ListComp, ast.JoinedStr, ast.FormattedValue, ast.Name,
     ast.Lambda,
 )
+KEYWORDS = {
+    "sorted": ("key", "reverse"), "min": ("key", "default"), "max": ("key", "default"), "sum": ("start",),
+    "enumerate": ("start",), "zip": ("strict",),
+}
 WALKED = ("zip", "enumerate", "reversed", "range")
 WALKERS = ("list", "tuple", "dict", "sorted", "sum", "any", "all", "enumerate", "zip", "min", "max")
 
@@ -167,6 +171,10 @@ class Checker:
                 self.fault("L24", node)
         if any(isinstance(part, ast.Starred) for part in node.args):
             self.fault("L7", node)
+        called = getattr(node.func, "id", "")
+        if called in ALLOWED_BUILTINS or isinstance(node.func, ast.Attribute):
+            if any(part.arg not in KEYWORDS.get(called, ()) for part in node.keywords):
+                self.fault("L22", node)
 
     def check_walked(self, node):
         above = self.above[node]
@@ -268,6 +276,7 @@ class CheckerTest(unittest.TestCase):
             ("L10", "A = 1\n" * 500), ("L12", "def f():\n    _ = 1\n"), ("L14", "# \u00e4\n"),
             ("L15", "def f(min):\n    return min\n"), ("L15", "A = 1\nA = 2\n"), ("L15", "A = [[1]]\n"),
             ("L17", "# a type\n"), ("L20", "def f(a):\n    return a is a\n"), ("L21", "def f(a: int):\n    return a\n"),
+            ("L22", "def f(a):\n    return int(a, base=2)\n"), ("L22", "def f(a):\n    return a.split(sep=' ')\n"),
             ("L23", "def f(a):\n    b = zip(a, a)\n    return list(b)\n"), ("L24", "def f(a):\n    b = set(a)\n"),
             ("L25", "def f(a):\n    a.sort()\n"), ("L27", "def f(a):\n    return 2 ** a\n"), ("L27", "A = '%'\n"),
         ):
