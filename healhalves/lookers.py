@@ -21,9 +21,11 @@ def lets_paper(size, loss, place, paper):
 def lets_told(length, loss, place, spots, places):
     if not is_rising(spots, length) or not is_rising(places, place):
         return False
-    if any([spot in loss for spot in spots]):
-        return False
-    # Every core is a sum of cores with a single 1, so the row sums to the place for all of them if for these.
+    return not any([spot in loss for spot in spots]) and sums_to(length, place, spots, places)
+
+
+# Every core is a sum of cores with a single 1, so the row sums to the place for all of them if for these.
+def sums_to(length, place, spots, places):
     return all([sum_at(other, spots, places) == (1 if other == place else 0) for other in range(length)])
 
 

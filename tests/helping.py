@@ -1,5 +1,6 @@
 """What the tests share: odd things, references that go through everything, and a case that asks for fairness."""
 
+import functools
 import itertools
 import random
 import unittest
@@ -54,13 +55,15 @@ def reaches_by_figures(size, place, spot):
     return all(lower <= upper for lower, upper in zip(figures(size, spot), figures(size, place)))
 
 
+REACHING = {
+    size: [[place for place in range(2 ** size) if reaches_by_figures(size, place, spot)] for spot in range(2 ** size)]
+    for size in SIZES
+}
+
+
 def word_by_reach(size, core):
     """The word as the sum, at each spot, over all places that reach it."""
-    length = 2 ** size
-    return [
-        sum(core[place] for place in range(length) if reaches_by_figures(size, place, spot)) % 2
-        for spot in range(length)
-    ]
+    return [sum(core[place] for place in places) % 2 for places in REACHING[size]]
 
 
 def turn_by_figures(size, one, other):
@@ -264,6 +267,136 @@ def data_for(code, many=6):
 
 def came_with(word, loss):
     return [None if spot in loss else sign for spot, sign in enumerate(word)]
+
+
+def fits_came(word, came):
+    return all(sign is None or sign == other for sign, other in zip(came, word))
+
+
+def all_came(size):
+    return [list(came) for came in itertools.product([0, 1, None], repeat=2 ** size)]
+
+
+def drawn_came(draw, size, many):
+    """What came with more and fewer signs lost; none at all and all, too."""
+    for _ in range(many):
+        part = draw.choice([0, 1, 1, 2, 3, 5, 8])
+        yield [None if draw.randrange(8) < part else draw.randrange(2) for _ in range(2 ** size)]
+
+
+def no_came(size):
+    row = [0] * 2 ** size
+    things = NO_NUMBERS + [0, 1, tuple(row), "0" * 2 ** size, row[1:], row + [0], row + [None], row + row, [row], [[]]]
+    things += [row[: len(row) // 2], {spot: 0 for spot in range(2 ** size)}, tuple([None] * 2 ** size), [None]]
+    for thing in [thing for thing in NO_NUMBERS if thing is not None] + [2, -1, "?", "None", 10 ** 59]:
+        things += [row[1:] + [thing], [thing] + row[1:], [None] * (2 ** size - 1) + [thing]]
+    return things
+
+
+def turned_at(row, spots):
+    """The row with other signs at these spots, where there are signs."""
+    return [1 - sign if spot in spots and sign is not None else sign for spot, sign in enumerate(row)]
+
+
+def came_for(code, many=10):
+    """What came of words of the code with none, some and all signs lost, of such with signs turned, and any signs."""
+    length = 2 ** code[0]
+    draw = random.Random(f"came for {code}")
+    rows = [[None] * length]
+    for data in data_for(code)[-2:]:
+        word = word_by_reach(code[0], core_by_places(code, data))
+        losses = [[]] + [draw.sample(range(length), draw.randrange(length + 1)) for _ in range(many)]
+        cut = [came_with(word, loss) for loss in losses]
+        rows += cut + [turned_at(came, [draw.randrange(length)]) for came in cut]
+    return rows + list(drawn_came(draw, code[0], many))
+
+
+def few_free(size, most, many=12):
+    """Codes of the size of which all data can be gone through."""
+    draw = random.Random(f"few free {size} {most}")
+    frees = [sorted(draw.sample(range(2 ** size), draw.randrange(1, min(most, 2 ** size) + 1))) for _ in range(many)]
+    return [(size, free, [draw.randrange(2) for _ in range(2 ** size - len(free))]) for free in frees]
+
+
+def fit_by_all_data(code, came):
+    """By going through all data, in order."""
+    rows = all_rows(len(code[1]))
+    return [data for data in rows if fits_came(word_by_reach(code[0], core_by_places(code, data)), came)]
+
+
+def how_many_by_rank(code, came):
+    """Each kept spot asks for a sum of free places, written as a number, with the sign that it must have behind it."""
+    size, free, _ = code
+    bare = word_by_reach(size, core_by_places(code, [0] * len(free)))
+    heads = {}
+    for spot in [spot for spot in range(2 ** size) if came[spot] is not None]:
+        number = 0
+        for place in free:
+            number = 2 * number + (place in REACHING[size][spot])
+        number = 2 * number + (came[spot] + bare[spot]) % 2
+        while number > 1 and number.bit_length() in heads:
+            number ^= heads[number.bit_length()]
+        if number == 1:
+            return 0
+        if number:
+            heads[number.bit_length()] = number
+    return 2 ** (len(free) - len(heads))
+
+
+def changed_forms(paper, words):
+    """The paper with a part more or less, turned about, within something, and with other words ahead."""
+    kinds = [list(paper), paper[::-1], paper[:-1], paper[1:], paper + ([],), paper + (None,), (paper,), paper + paper]
+    return kinds + [(word,) + paper[1:] for word in words] + [(paper[0], paper), [paper], (), (paper[0],)]
+
+
+def toggled(numbers, number):
+    return sorted(set(numbers) ^ {number})
+
+
+def losses_drawn(size, many=8):
+    """No loss, all spots, and drawn ones."""
+    draw = random.Random(f"losses drawn {size}")
+    spots = range(2 ** size)
+    drawn = [sorted(draw.sample(spots, draw.randrange(1, 2 ** size))) for _ in range(many)]
+    return [[], list(spots)] + drawn
+
+
+def is_asking(code, loss, paper):
+    """A paper of asking as the document has it."""
+    size, free, _ = code
+    if type(paper) is not tuple or len(paper) != 4 or type(paper[0]) is not str or paper[0] != "asked":
+        return False
+    _, spots, cores, rows = paper
+    kept = [spot for spot in range(2 ** size) if spot not in loss]
+    fixed = [place for place in range(2 ** size) if place not in free]
+    if not is_some_of(spots, loss) or type(cores) is not list or type(rows) is not list:
+        return False
+    if len(cores) != len(spots) or len(rows) != len(free):
+        return False
+    for own, core in zip(spots, cores):
+        if type(core) is not list or len(core) != 2 ** size or any(repr(sign) not in ("0", "1") for sign in core):
+            return False
+        word = word_by_reach(size, core)
+        if any(core[place] for place in fixed) or any(word[spot] for spot in kept):
+            return False
+        if any(word[spot] != (spot == own) for spot in spots):
+            return False
+    for place, row in zip(free, rows):
+        if type(row) is not tuple or len(row) != 2:
+            return False
+        if not is_some_of(row[0], sorted(kept + spots)) or not is_some_of(row[1], fixed):
+            return False
+        if not sums_to_place(size, place, tuple(row[0]), tuple(row[1])):
+            return False
+    return True
+
+
+@functools.lru_cache(maxsize=None)
+def sums_to_place(size, place, spots, places):
+    return all(
+        (sum(WORDS[core][spot] for spot in spots) + sum(core[other] for other in places)) % 2 == core[place]
+        for core in CORES[size]
+    )
 
 
 def can_be_told(size, loss, place):

@@ -6,8 +6,8 @@ from healhalves.errors import NoLoss, NoPlace, NoSize
 from healhalves.lookers import lets_paper
 from healhalves.papers import paper_on
 from tests.helping import (
-    NO_NUMBERS, NO_SIZES, SIZES, Agreeable, FairCase, all_rows, changed_lists, is_paper, losses_for, no_losses,
-    no_places, single,
+    NO_NUMBERS, NO_SIZES, SIZES, Agreeable, FairCase, all_rows, changed_forms, changed_lists, is_paper, losses_for,
+    no_losses, no_places, single, toggled,
 )
 
 NO_PAPERS = NO_NUMBERS + [0, 1, "told", "open", ("told",), ("open",), ("told", [0]), ("open", [0, 1], [])] + [
@@ -23,14 +23,9 @@ def some_of(numbers):
         yield [number for number, taken in zip(numbers, row) if taken]
 
 
-def toggled(numbers, number):
-    return sorted(set(numbers) ^ {number})
-
-
 def changed_papers(size, paper):
-    kinds = [list(paper), paper[::-1], paper[:-1], paper[1:], paper + ([],), paper + (None,), (paper,), paper + paper]
-    for word in ("told", "open", "row", "fits", "", None, 1, "TOLD", ("told",), ["open"], Agreeable()):
-        kinds.append((word,) + paper[1:])
+    words = ("told", "open", "row", "fits", "", None, 1, "TOLD", ("told",), ["open"], Agreeable())
+    kinds = changed_forms(paper, words)
     for part in range(1, len(paper)):
         for row in changed_lists(paper[part]):
             kinds.append(paper[:part] + (row,) + paper[part + 1:])

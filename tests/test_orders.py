@@ -10,7 +10,8 @@ from healhalves.orders import lets_order, order_paper
 from healhalves.shares import shares_of
 from healhalves.steps import is_step, turned_loss
 from tests.helping import (
-    NO_NUMBERS, NO_SIZES, SIZES, Agreeable, FairCase, changed_lists, figures, is_order, losses_for, no_places,
+    NO_NUMBERS, NO_SIZES, SIZES, Agreeable, FairCase, changed_forms, changed_lists, figures, is_order, losses_for,
+    no_places,
 )
 
 WORDS = ("row", "ones", "told", "open", "", "Row", "ones ", None, 1, ("row",), ["ones"], b"row", Agreeable())
@@ -51,8 +52,7 @@ def identity(size):
 
 
 def changed_papers(size, paper):
-    kinds = [list(paper), paper[::-1], paper[:-1], paper[1:], paper + ([],), paper + (None,), (paper,), paper + paper]
-    kinds += [(word,) + paper[1:] for word in WORDS]
+    kinds = changed_forms(paper, WORDS)
     if paper[0] == "ones":
         things = NO_NUMBERS + list(range(-2, 8)) + [10 ** 59, [paper[1]], (paper[1],), str(paper[1])]
         return kinds + [("ones", thing) for thing in things] + [("row", [0], identity(size))]

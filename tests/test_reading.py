@@ -1,4 +1,3 @@
-import itertools
 import random
 import unittest
 
@@ -7,8 +6,8 @@ from healhalves.errors import NoCame, NoCode
 from healhalves.lookers import lets_paper
 from healhalves.reading import read_one_by_one
 from tests.helping import (
-    NO_NUMBERS, SIZES, WORDS, FairCase, all_codes, all_rows, came_with, codes_for, core_by_places, data_for, losses_for,
-    lost_places, no_codes, word_by_reach,
+    SIZES, WORDS, FairCase, all_came, all_codes, all_rows, came_with, codes_for, core_by_places, data_for, drawn_came,
+    fits_came, losses_for, lost_places, no_came, no_codes, word_by_reach,
 )
 
 
@@ -33,10 +32,6 @@ def read_by_cores(code, came):
             return ("slip", place)
         core.append(sign)
     return ("read", [core[place] for place in free])
-
-
-def fits_came(word, came):
-    return all(sign is None or sign == other for sign, other in zip(came, word))
 
 
 def read_by_halves(code, came):
@@ -66,26 +61,6 @@ def read_by_halves(code, came):
     except Stop as stop:
         return stop.args
     return ("read", [core[place] for place in free])
-
-
-def all_came(size):
-    return [list(came) for came in itertools.product([0, 1, None], repeat=2 ** size)]
-
-
-def drawn_came(draw, size, many):
-    """What came with more and fewer signs lost; none at all and all, too."""
-    for _ in range(many):
-        part = draw.choice([0, 1, 1, 2, 3, 5, 8])
-        yield [None if draw.randrange(8) < part else draw.randrange(2) for _ in range(2 ** size)]
-
-
-def no_came(size):
-    row = [0] * 2 ** size
-    things = NO_NUMBERS + [0, 1, tuple(row), "0" * 2 ** size, row[1:], row + [0], row + [None], row + row, [row], [[]]]
-    things += [row[: len(row) // 2], {spot: 0 for spot in range(2 ** size)}, tuple([None] * 2 ** size), [None]]
-    for thing in [thing for thing in NO_NUMBERS if thing is not None] + [2, -1, "?", "None", 10 ** 59]:
-        things += [row[1:] + [thing], [thing] + row[1:], [None] * (2 ** size - 1) + [thing]]
-    return things
 
 
 class WordsTest(FairCase):
