@@ -12,7 +12,11 @@ def check_road(road):
 
 
 def is_road(thing):
-    return isinstance(thing, list) and is_word_length(len(thing)) and all([is_share(share) for share in thing])
+    return isinstance(thing, list) and is_word_length(len(thing)) and are_shares(thing, len(thing))
+
+
+def are_shares(thing, many):
+    return isinstance(thing, list) and len(thing) == many and all([is_share(share) for share in thing])
 
 
 def chance_of(road, loss):

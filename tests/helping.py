@@ -176,6 +176,19 @@ def pair(one):
     return (one.numerator, one.denominator)
 
 
+def halves_by_fractions(shares):
+    half = len(shares) // 2
+    pairs = [(shares[spot], shares[spot + half]) for spot in range(half)]
+    return [p + q - p * q for p, q in pairs], [p * q for p, q in pairs]
+
+
+def shares_by_fractions(shares):
+    if len(shares) == 1:
+        return shares
+    worse, better = halves_by_fractions(shares)
+    return shares_by_fractions(worse) + shares_by_fractions(better)
+
+
 def roads_for(size, many=6):
     """Roads of one share everywhere, of 0, 1 and others among them, and of twelve figures."""
     length = 2 ** size

@@ -44,9 +44,16 @@ WALKED = ("zip", "enumerate", "reversed", "range")
 WALKERS = ("list", "tuple", "dict", "sorted", "sum", "any", "all", "enumerate", "zip", "min", "max")
 
 
+# The names that Python's own texts, numbers, lists, dicts, sets and bytes have.
+PYTHONS_OWN = {name for kind in (str, int, list, tuple, dict, set, frozenset, bytes) for name in dir(kind)}
+VALUES_ALL_THE_SAME = set("count index title find get join lower upper split strip copy add".split())
+
+
 class Checker:
-    def __init__(self, text):
+    def __init__(self, text, methods=()):
+        """The methods are those of all classes of the package."""
         self.text = text
+        self.methods = methods
         self.tree = ast.parse(text)
         self.faults = []
         self.above = {child: node for node in ast.walk(self.tree) for child in ast.iter_child_nodes(node)}
@@ -116,6 +123,8 @@ class Checker:
         if node.returns:
             self.fault("L21", node)
         self.check_name(node.name, node)
+        if node.name == "__init__" and any(isinstance(part, ast.Return) for part in ast.walk(node)):
+            self.fault("L28", node)
 
     def check_arguments(self, node):
         if node.vararg or node.kwarg or node.kwonlyargs or node.posonlyargs:
@@ -128,6 +137,12 @@ class Checker:
             self.fault("L5", node)
         if node not in self.tree.body:
             self.fault("L15", node)
+        names = [row.name for row in node.body if isinstance(row, ast.FunctionDef)]
+        if len(names) != len(set(names)):
+            self.fault("L18", node)
+        for name in [name for name in names if not name.startswith("__")]:
+            if name in PYTHONS_OWN and name not in ALLOWED_METHODS and name not in ("add", "discard"):
+                self.fault("L26", node)
 
     def check_arg(self, node):
         self.check_local(node.arg, node)
@@ -155,8 +170,13 @@ class Checker:
 
     def check_Attribute(self, node):
         own = isinstance(node.value, ast.Name) and node.value.id == "self"
-        if not own and node.attr not in ALLOWED_METHODS:
+        if not own and node.attr not in ALLOWED_METHODS and node.attr not in self.methods:
             self.fault("L25", node)
+        if isinstance(node.ctx, ast.Store):
+            if not isinstance(node.value, ast.Name):
+                self.fault("L18", node)
+            if node.attr in PYTHONS_OWN and node.attr not in VALUES_ALL_THE_SAME:
+                self.fault("L26", node)
         if node.attr in ("items", "keys", "values"):
             self.check_walked(self.above[node])
 
@@ -206,6 +226,18 @@ class Checker:
         if getattr(node.type, "id", "Exception") in ("Exception", "TypeError"):
             self.fault("L19", node)
 
+    def check_Raise(self, node):
+        handlers = [above for above in self.all_above(node) if isinstance(above, ast.ExceptHandler)]
+        names = [handler.name for handler in handlers]
+        known = node.cause is None or getattr(node.cause, "id", None) in names or getattr(node.cause, "value", 0) is None
+        if not isinstance(node.exc, ast.Call) or not known:
+            self.fault("L19", node)
+
+    def all_above(self, node):
+        while node in self.above:
+            node = self.above[node]
+            yield node
+
     def check_BinOp(self, node):
         if isinstance(node.op, (ast.Div, ast.MatMult)):
             self.fault("L7", node)
@@ -225,6 +257,22 @@ class Checker:
                 self.fault("L20", node)
 
 
+def class_parts(tree):
+    """The methods and the values of all classes of a file."""
+    methods, values = set(), set()
+    for one in [row for row in tree.body if isinstance(row, ast.ClassDef)]:
+        methods |= {row.name for row in one.body if isinstance(row, ast.FunctionDef)}
+        values |= {
+            node.attr for node in ast.walk(one) if isinstance(node, ast.Attribute) and isinstance(node.ctx, ast.Store)
+        }
+    return methods, values
+
+
+def package_parts():
+    parts = [class_parts(ast.parse(path.read_text("ascii"))) for path in PACKAGE.glob("*.py")]
+    return set().union(*[part[0] for part in parts]), set().union(*[part[1] for part in parts])
+
+
 def drawn_from(path):
     tree = ast.parse(path.read_text("ascii"))
     return [row.module.split(".")[-1] for row in tree.body if isinstance(row, ast.ImportFrom)]
@@ -240,8 +288,15 @@ class PackageTest(unittest.TestCase):
                 self.assertTrue(path.stem == "__init__" or not hasattr(builtins, path.stem), path.name)
 
     def test_each_file_keeps_to_the_rules(self):
+        methods, _ = package_parts()
         for path in sorted(PACKAGE.glob("*.py")):
-            self.assertEqual(Checker(path.read_text("ascii")).check(), [], path.name)
+            self.assertEqual(Checker(path.read_text("ascii"), methods).check(), [], path.name)
+
+    def test_no_name_is_a_method_here_and_a_value_there(self):
+        methods, values = package_parts()
+        self.assertIn("hear", methods)
+        self.assertIn("heard", values)
+        self.assertEqual(methods & values, set())
 
     def test_each_name_is_drawn_from_the_file_that_defines_it_and_is_used(self):
         for path in sorted(PACKAGE.glob("*.py")):
@@ -278,6 +333,11 @@ class CheckerTest(unittest.TestCase):
             ("L17", "# a type\n"), ("L20", "def f(a):\n    return a is a\n"), ("L21", "def f(a: int):\n    return a\n"),
             ("L22", "def f(a):\n    return int(a, base=2)\n"), ("L22", "def f(a):\n    return a.split(sep=' ')\n"),
             ("L23", "def f(a):\n    b = zip(a, a)\n    return list(b)\n"), ("L24", "def f(a):\n    b = set(a)\n"),
+            ("L18", "class A:\n    def f(self):\n        pass\n    def f(self):\n        pass\n"),
+            ("L19", "def f(a):\n    raise a\n"), ("L19", "def f(a):\n    raise ValueError(a) from a\n"),
+            ("L25", "def f(a):\n    return a.hear()\n"), ("L26", "class A:\n    def sort(self):\n        pass\n"),
+            ("L26", "class A:\n    def __init__(self):\n        self.items = 1\n"),
+            ("L28", "class A:\n    def __init__(self):\n        return None\n"),
             ("L25", "def f(a):\n    a.sort()\n"), ("L27", "def f(a):\n    return 2 ** a\n"), ("L27", "A = '%'\n"),
         ):
             self.assertIn(rule, [fault[0] for fault in Checker(text).check()], text)

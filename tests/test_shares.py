@@ -4,7 +4,10 @@ from fractions import Fraction
 from healhalves.errors import NoLoss, NoRoad
 from healhalves.fractions import is_fraction
 from healhalves.shares import chance_of, halves_of, shares_of
-from tests.helping import SIZES, FairCase, losses_for, lost_places, no_losses, no_roads, pair, roads_for
+from tests.helping import (
+    SIZES, FairCase, halves_by_fractions, losses_for, lost_places, no_losses, no_roads, pair, roads_for,
+    shares_by_fractions,
+)
 
 ONES = [(1, 2), (1, 3), (2, 3), (1, 10), (9, 10), (0, 1), (1, 1), (123456789011, 999999999989)]
 
@@ -18,19 +21,6 @@ def product(road, loss):
     for spot, share in enumerate(read(road)):
         chance *= share if spot in loss else 1 - share
     return chance
-
-
-def halves_by_fractions(shares):
-    half = len(shares) // 2
-    pairs = [(shares[spot], shares[spot + half]) for spot in range(half)]
-    return [p + q - p * q for p, q in pairs], [p * q for p, q in pairs]
-
-
-def shares_by_fractions(shares):
-    if len(shares) == 1:
-        return shares
-    worse, better = halves_by_fractions(shares)
-    return shares_by_fractions(worse) + shares_by_fractions(better)
 
 
 class ChanceOfTest(FairCase):
